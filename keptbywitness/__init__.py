@@ -1,0 +1,1 @@
+"""Objects of several nodes, kept exactly as long as somebody may still reach them."""

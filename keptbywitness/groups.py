@@ -3,6 +3,14 @@
 from keptbywitness.errors import Inconsistent, NoEntry, OutOfRange
 from keptbywitness.heaps import least_path, led_objects
 
+# The places of the items in a report.
+_NODE = 0
+_SENT = 1
+_SEEN = 2
+_ROOTS = 3
+_EXPORTS = 4
+_RETURNED = 5
+
 
 def is_consistent(reports):
     """Whether no member has seen more from another one than that one had sent."""
@@ -84,36 +92,46 @@ def _check_consistent(reports):
 def _saw_only_sent(reader, writer):
     """Whether the report reader has seen no more from the node of writer than that one had sent."""
     # Of itself a node has sent and seen nothing; only other members count.
-    return reader[0] == writer[0] or reader[2][writer[0]] <= writer[1][reader[0]]
+    here, there = reader[_NODE], writer[_NODE]
+    return here == there or reader[_SEEN][there] <= writer[_SENT][here]
 
 
 def _numbers(reports):
     """For the name of each entry the number of the last message that carried it."""
     numbers = {}
     for report in reports:
-        for to, entry, number, _ in report[4]:
-            numbers[(report[0], to, entry)] = number
+        for to, entry, number, _ in report[_EXPORTS]:
+            numbers[(report[_NODE], to, entry)] = number
+    return numbers
+
+
+def _rooted(reports):
+    """A dict of True with the names of the entries that are among the roots of their holders."""
+    return {(owner, report[_NODE], entry): True for report in reports for owner, entry in report[_ROOTS]}
+
+
+def _sent_back(reports):
+    """For the name of each entry that was sent back the number of the message."""
+    numbers = {}
+    for report in reports:
+        for owner, entry, number in report[_RETURNED]:
+            numbers[(owner, report[_NODE], entry)] = number
     return numbers
 
 
 def _own_reasons(reports):
     """For the name of each entry the first reason of its own to be live, or None."""
-    members = {report[0]: report for report in reports}
-    rooted = {}
-    returns = {}
-    for holder, _, _, roots, _, returned in reports:
-        for owner, entry in roots:
-            rooted[(owner, holder, entry)] = True
-        for owner, entry, number in returned:
-            returns[(owner, holder, entry)] = number
+    seen = {report[_NODE]: report[_SEEN] for report in reports}
+    rooted = _rooted(reports)
+    returns = _sent_back(reports)
     reasons = {}
     for name, number in _numbers(reports).items():
         owner, to, _ = name
-        if to not in members:
+        if to not in seen:
             reasons[name] = "stranger"
-        elif number > members[to][2][owner]:
+        elif number > seen[to][owner]:
             reasons[name] = "sent"
-        elif name in returns and returns[name] > members[owner][2][to]:
+        elif name in returns and returns[name] > seen[owner][to]:
             reasons[name] = "returned"
         elif name in rooted:
             reasons[name] = "root"
@@ -127,8 +145,8 @@ def _keeping_pairs(reports):
     names = _numbers(reports)
     pairs = []
     for report in reports:
-        holder = report[0]
-        for to, entry, _, imports in report[4]:
+        holder = report[_NODE]
+        for to, entry, _, imports in report[_EXPORTS]:
             for owner, held in imports:
                 # What is held of strangers, or is no entry any more, has no name here.
                 if (owner, holder, held) in names:

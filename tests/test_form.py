@@ -16,6 +16,9 @@ FUNCTIONS = {
     "groups": {
         "is_consistent": 1, "live": 1, "garbage": 1, "why_live": 2, "kept_by": 2, "reachable": 1, "dangling": 1,
     },
+    "nodes": {"replay": 3},
+    "executions": {"first_fault": 1, "perform_all": 1, "reclaims": 1},
+    "witnesses": {"find_witness": 4, "check_witness": 5},
 }
 CLASSES = {
     "errors": (
@@ -23,7 +26,17 @@ CLASSES = {
         "WrongMessage", "Inconsistent", "NoReport", "NotKept", "NotOpen", "LogFull", "PowerCut", "NoLetter",
         "Reclaims",
     ),
+    "nodes": ("Node",),
 }
+# For each class the parameters of its methods, after the first one.
+METHODS = {
+    ("nodes", "Node"): {
+        "__init__": ["nodes", "number"], "perform": ["event"], "reclaim": ["reports"], "number": [], "nodes": [],
+        "roots": [], "heap": [], "exports": [], "imports": [], "sent": [], "seen": [], "returned": [], "report": [],
+        "last_report": [], "history": [], "kept": [],
+    },
+}
+CONSTANTS = {"nodes": {"FIELDS_MOST": 4, "CARRIED_MOST": 4}, "executions": {"STEPS_MOST": 400}}
 
 LIBRARY = {"heapq", "math", "itertools", "collections", "__future__"}
 ALLOWED_BUILTINS = set(
@@ -36,6 +49,11 @@ BARRED_NAMES = set(
     "register mro elements open input law version_info with_traceback add_note attrgetter breakpoint builtins"
     " compile copyright credits delattr dir eval exec exit gc globals help id importlib license locals"
     " methodcaller os quit sys type vars typing enum".split()
+)
+BUILTIN_METHODS = set(
+    "append clear copy count endswith extend find get index insert isalnum isalpha isdigit islower isspace isupper"
+    " items join keys ljust lower lstrip partition pop remove replace reverse rfind rjust rpartition rsplit rstrip"
+    " setdefault split splitlines startswith strip update upper values zfill bit_length __init__".split()
 )
 STATEMENTS = (ast.ImportFrom, ast.FunctionDef, ast.ClassDef, ast.Assign)
 BARRED_NODES = (
@@ -76,6 +94,20 @@ class InterfaceTest(unittest.TestCase):
                 with self.subTest(file=file, name=name):
                     self.assertTrue(inspect.isclass(getattr(module, name)))
                     self.assertEqual(getattr(module, name).__module__, module.__name__)
+
+    def test_methods_stand_in_the_class_itself(self):
+        for (file, name), methods in METHODS.items():
+            made = getattr(importlib.import_module(f"keptbywitness.{file}"), name)
+            for method, parameters in methods.items():
+                with self.subTest(name=name, method=method):
+                    self.assertTrue(inspect.isfunction(vars(made)[method]))
+                    self.assertEqual(list(inspect.signature(vars(made)[method]).parameters)[1:], parameters)
+
+    def test_constants(self):
+        for file, constants in CONSTANTS.items():
+            module = importlib.import_module(f"keptbywitness.{file}")
+            for name, number in constants.items():
+                self.assertEqual(getattr(module, name), number)
 
 
 class LanguageTest(unittest.TestCase):
@@ -156,6 +188,25 @@ class LanguageTest(unittest.TestCase):
                     self.assertNotIsInstance(node.value, (float, complex), path.name)
                     if isinstance(node.value, str):
                         self.assertNotIn("%", node.value, path.name)
+
+    def test_methods_are_those_of_builtin_values_or_own_ones(self):
+        own = {
+            part.name for _, tree in trees() for node in tree.body if isinstance(node, ast.ClassDef)
+            for part in node.body if isinstance(part, ast.FunctionDef)
+        }
+        for path, tree in trees():
+            for node in ast.walk(tree):
+                if isinstance(node, ast.Call) and isinstance(node.func, ast.Attribute):
+                    self.assertIn(node.func.attr, own | BUILTIN_METHODS, f"{path.name} {node.lineno}")
+
+    def test_names_are_methods_or_attributes(self):
+        for path, tree in trees():
+            for made in (node for node in tree.body if isinstance(node, ast.ClassDef)):
+                methods = [part.name for part in made.body if isinstance(part, ast.FunctionDef)]
+                self.assertEqual(len(methods), len(set(methods)), made.name)
+                for node in ast.walk(made):
+                    if isinstance(node, ast.Attribute) and isinstance(node.ctx, ast.Store):
+                        self.assertNotIn(node.attr, methods, path.name)
 
     def test_sets_are_not_iterated(self):
         for path, tree in trees():

@@ -41,6 +41,7 @@ def perform_possible(execution):
     done = []
     for step in execution[1]:
         try:
+            check_step(len(nodes), step)
             given = perform_step(nodes, done, step)
         except KeepError:
             return (nodes, done, len(done))
@@ -48,13 +49,18 @@ def perform_possible(execution):
     return (nodes, done, None)
 
 
-def perform_step(nodes, done, step):
-    """What a step returns that nodes perform after the steps of done, tuples as in perform_and_note."""
+def check_step(many, step):
+    """Raises OutOfRange if a step is of none of so many nodes, or has an event that is none of a step."""
     number, event = step
-    if not 0 <= number < len(nodes):
+    if not 0 <= number < many:
         raise OutOfRange("node")
     if event[0] == "remove":
         raise OutOfRange("event")
+
+
+def perform_step(nodes, done, step):
+    """What a checked step returns that nodes perform after the steps of done, tuples as in perform_and_note."""
+    number, event = step
     if event[0] == "receive":
         return nodes[number].perform(("receive", _message_for(number, done, event[1])))
     if event[0] == "reclaim":

@@ -46,11 +46,16 @@ def why_live(reports, entry):
     return (reasons[path[-1]], tuple(path))
 
 
+def is_rising(row):
+    """Whether each item of a list or a tuple is greater than the one before it."""
+    return all([low < high for low, high in zip(row, row[1:])])
+
+
 def is_group(group, many):
     """Whether group is a rising tuple, not empty, of nodes of a network of so many nodes."""
     if len(group) == 0 or group[0] < 0 or group[-1] >= many:
         return False
-    return all([low < high for low, high in zip(group, group[1:])])
+    return is_rising(group)
 
 
 def kept_by(nodes, group):

@@ -19,6 +19,12 @@ def is_network_size(many):
     return _NODES_LEAST <= many <= _NODES_MOST
 
 
+def is_passed_over(event, given):
+    """Whether an event that gave this is a message that is not accepted, and so none of the history."""
+    # A message that is accepted gives a tuple, also if it carries nothing.
+    return event[0] == "receive" and given is None
+
+
 class Node:
     """One node of a network, as its events have made it."""
 
@@ -49,8 +55,7 @@ class Node:
     def perform(self, event):
         """Performs an event and returns what it gives; one that is refused changes nothing."""
         given = self._act(event)
-        # Only a message that is not accepted gives None here; it leaves no trace at all.
-        if event[0] != "receive" or given is not None:
+        if not is_passed_over(event, given):
             self._history.append(event)
         return given
 
@@ -122,6 +127,23 @@ class Node:
     def kept(self):
         """The rising list of the ids of the objects that collecting would keep."""
         return led_objects(self._heap, self._used())
+
+    def twin(self):
+        """A new node that is like this one."""
+        other = Node(self._nodes, self._number)
+        other._heap = dict(self._heap)
+        other._roots = dict(self._roots)
+        other._table = {name: row for name, row in self._table.items()}
+        other._imports = {name: True for name in self._imports}
+        other._returned = {name: last for name, last in self._returned.items()}
+        other._sent = list(self._sent)
+        other._seen = list(self._seen)
+        other._last_report = self._last_report
+        other._history = list(self._history)
+        other._next_object = self._next_object
+        other._next_root = self._next_root
+        other._next_entries = list(self._next_entries)
+        return other
 
     def _act(self, event):
         """Performs an event, but for its place in the history."""

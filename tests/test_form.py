@@ -19,6 +19,7 @@ FUNCTIONS = {
     "nodes": {"replay": 3},
     "executions": {"first_fault": 1, "perform_all": 1, "reclaims": 1},
     "witnesses": {"find_witness": 4, "check_witness": 5},
+    "events": {"write_event": 1, "read_event": 2},
 }
 CLASSES = {
     "errors": (
@@ -27,6 +28,8 @@ CLASSES = {
         "Reclaims",
     ),
     "nodes": ("Node",),
+    "network": ("Network",),
+    "disks": ("Disk",),
 }
 # For each class the parameters of its methods, after the first one.
 METHODS = {
@@ -35,8 +38,19 @@ METHODS = {
         "roots": [], "heap": [], "exports": [], "imports": [], "sent": [], "seen": [], "returned": [], "report": [],
         "last_report": [], "history": [], "kept": [],
     },
+    ("network", "Network"): {
+        "__init__": ["nodes"], "perform": ["node", "event"], "round": [], "collect_jointly": ["group"], "execution": [],
+        "nodes": [],
+    },
+    ("disks", "Disk"): {
+        "__init__": ["blocks"], "size": [], "read": ["at"], "write": ["at", "block"], "flush": [], "pending_count": [],
+        "cut_count": [], "cut_power": ["torn"], "schedule_cut": ["many", "torn"],
+    },
 }
-CONSTANTS = {"nodes": {"FIELDS_MOST": 4, "CARRIED_MOST": 4}, "executions": {"STEPS_MOST": 400}}
+CONSTANTS = {
+    "nodes": {"FIELDS_MOST": 4, "CARRIED_MOST": 4}, "executions": {"STEPS_MOST": 400},
+    "disks": {"BLOCK": 32, "BLOCKS_MOST": 400},
+}
 
 LIBRARY = {"heapq", "math", "itertools", "collections", "__future__"}
 ALLOWED_BUILTINS = set(
@@ -53,7 +67,7 @@ BARRED_NAMES = set(
 BUILTIN_METHODS = set(
     "append clear copy count endswith extend find get index insert isalnum isalpha isdigit islower isspace isupper"
     " items join keys ljust lower lstrip partition pop remove replace reverse rfind rjust rpartition rsplit rstrip"
-    " setdefault split splitlines startswith strip update upper values zfill bit_length __init__".split()
+    " setdefault split splitlines startswith strip update upper values zfill bit_length isdecimal __init__".split()
 )
 STATEMENTS = (ast.ImportFrom, ast.FunctionDef, ast.ClassDef, ast.Assign)
 BARRED_NODES = (

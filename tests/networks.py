@@ -1,11 +1,9 @@
 """Networks for the tests: what they tell, a drawn one, and one that goes by the words of the document."""
 
-import unittest
-
-from keptbywitness.errors import KeepError
 from keptbywitness.executions import first_fault, perform_all
 from keptbywitness.groups import garbage
 from keptbywitness.network import Network
+from cases import UnchangedCase
 from draws import Draw
 from models import Model, outcome, tell
 
@@ -23,15 +21,10 @@ def network_of(execution):
     return network
 
 
-class NetworkCase(unittest.TestCase):
+class NetworkCase(UnchangedCase):
     def refuses(self, network, error, name, call, *arguments):
         """The call raises exactly this error, and changes nothing of the network."""
-        before = tell_all(network)
-        with self.assertRaises(KeepError, msg=arguments) as caught:
-            call(*arguments)
-        self.assertIs(type(caught.exception), error, arguments)
-        self.assertEqual(getattr(caught.exception, "name", None), name, arguments)
-        self.assertEqual(tell_all(network), before, arguments)
+        self.raises_unchanged(lambda: tell_all(network), error, name, call, *arguments)
 
     def is_performed(self, network):
         """The steps of the network lead to nodes that tell the same as its own."""

@@ -5,7 +5,8 @@ import unittest
 
 from keptbywitness import disks
 from keptbywitness.disks import Disk
-from keptbywitness.errors import KeepError, OutOfRange, PowerCut
+from keptbywitness.errors import OutOfRange, PowerCut
+from cases import UnchangedCase
 
 ZEROS = [0] * 32
 
@@ -19,15 +20,10 @@ def tell_disk(disk):
     return (disk.size(), [disk.read(at) for at in range(disk.size())], disk.pending_count(), disk.cut_count())
 
 
-class DiskCase(unittest.TestCase):
+class DiskCase(UnchangedCase):
     def refuses(self, disk, name, call, *arguments):
         """The call raises OutOfRange with this name, and changes nothing that the disk tells."""
-        before = tell_disk(disk)
-        with self.assertRaises(KeepError, msg=arguments) as caught:
-            call(*arguments)
-        self.assertIs(type(caught.exception), OutOfRange, arguments)
-        self.assertEqual(caught.exception.name, name, arguments)
-        self.assertEqual(tell_disk(disk), before)
+        self.raises_unchanged(lambda: tell_disk(disk), OutOfRange, name, call, *arguments)
 
     def is_cut(self, disk, call, *arguments):
         cuts = disk.cut_count()

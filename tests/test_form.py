@@ -20,6 +20,8 @@ FUNCTIONS = {
     "executions": {"first_fault": 1, "perform_all": 1, "reclaims": 1},
     "witnesses": {"find_witness": 4, "check_witness": 5},
     "events": {"write_event": 1, "read_event": 2},
+    "blocks": {"encode_record": 2, "decode_piece": 1},
+    "log": {"format_disk": 3, "open_log": 1},
 }
 CLASSES = {
     "errors": (
@@ -30,6 +32,9 @@ CLASSES = {
     "nodes": ("Node",),
     "network": ("Network",),
     "disks": ("Disk",),
+    "log": ("Log",),
+    "house": ("House",),
+    "link": ("Link",),
 }
 # For each class the parameters of its methods, after the first one.
 METHODS = {
@@ -46,10 +51,20 @@ METHODS = {
         "__init__": ["blocks"], "size": [], "read": ["at"], "write": ["at", "block"], "flush": [], "pending_count": [],
         "cut_count": [], "cut_power": ["torn"], "schedule_cut": ["many", "torn"],
     },
+    ("log", "Log"): {"node": [], "events": [], "append": ["event"], "sync": [], "free_blocks": []},
+    ("house", "House"): {
+        "__init__": ["disk"], "perform": ["event"], "hear": ["report"], "reclaim": ["group"], "sync": [], "node": [],
+        "count": [], "free_blocks": [],
+    },
+    ("link", "Link"): {
+        "__init__": ["nodes", "blocks"], "perform": ["node", "event"], "reclaim": ["node", "group"], "sync": ["node"],
+        "letters": [], "drop": ["at"], "duplicate": ["at"], "deliver": ["at"], "nodes": [], "is_open": ["node"],
+        "cut_power": ["node", "torn"], "schedule_cut": ["node", "many", "torn"], "reopen": ["node"],
+    },
 }
 CONSTANTS = {
     "nodes": {"FIELDS_MOST": 4, "CARRIED_MOST": 4}, "executions": {"STEPS_MOST": 400},
-    "disks": {"BLOCK": 32, "BLOCKS_MOST": 400},
+    "disks": {"BLOCK": 32, "BLOCKS_MOST": 400}, "blocks": {"PIECE": 24, "PIECES_MOST": 40},
 }
 
 LIBRARY = {"heapq", "math", "itertools", "collections", "__future__"}

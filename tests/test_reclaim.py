@@ -5,7 +5,7 @@ import unittest
 from keptbywitness.errors import Inconsistent, NoReport
 from keptbywitness.groups import garbage, live
 from keptbywitness.nodes import Node, replay
-from cases import RefusalsCase, after
+from cases import RefusalsCase
 from models import tell
 from standins import imp, obj
 

@@ -7,7 +7,7 @@ from keptbywitness.errors import OutOfRange
 from keptbywitness.executions import perform_all
 from keptbywitness.groups import dangling, garbage, is_consistent, kept_by, live, reachable
 from keptbywitness.network import Network
-from keptbywitness.witnesses import check_witness, find_witness
+from cases import WitnessCase
 from models import groups_of, tell
 from networks import NetworkCase, NetworkDraw, network_of, tell_all
 
@@ -113,7 +113,7 @@ class RoomTest(NetworkCase):
             self.is_performed(network)
 
 
-class DrawnRoundsTest(unittest.TestCase):
+class DrawnRoundsTest(WitnessCase):
     """Over drawn networks, with messages lost, late and repeated, and reclaims among the steps."""
 
     def drawn(self, seed, networks):
@@ -221,12 +221,7 @@ class DrawnRoundsTest(unittest.TestCase):
             nodes, execution = draw.network.nodes(), draw.network.execution()
             for group in groups_of(nodes):
                 kept = kept_by(nodes, group)
-                for owner, key in [(member, key) for member in group for key in nodes[member].heap()]:
-                    witness = find_witness(execution, group, owner, key)
-                    self.assertEqual(witness is not None, (owner, key) in kept)
-                    if witness is not None:
-                        self.assertIsNone(check_witness(execution, group, owner, key, witness))
-                    found.append(witness not in (None, execution))
+                found += [one not in (None, execution) for one in self.witnesses(execution, nodes, group, kept)]
                 if len(group) == 1:
                     self.assertEqual(kept, [(group[0], key) for key in nodes[group[0]].kept()])
         self.assertGreater(sum(found), 50)

@@ -68,7 +68,7 @@ def _words_of_message(message):
 
 def _read_receive(number, words):
     """The event in which the node with this number receives the message of the words, or None."""
-    if words.count("carried") != 1:
+    if "carried" not in words:
         return None
     at = words.index("carried")
     numbers = read_numbers(words[:at])
